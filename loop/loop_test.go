@@ -394,3 +394,39 @@ func TestArgumentsStayAsTheyAre(t *testing.T) {
 		t.Errorf("changed: %+v %+v", l, s)
 	}
 }
+
+func TestLooks(t *testing.T) {
+	want := map[int]int{api.LStore: 1}
+	for op := api.OpAdd; op <= api.OpSame; op++ {
+		want[api.LOp+op] = 2
+	}
+	for op := -20; op <= 40; op++ {
+		if got := Looks(op); got != want[op] {
+			t.Errorf("Looks(%d) = %d, want %d", op, got, want[op])
+		}
+	}
+	for _, op := range []int{math.MinInt, 1 << 32, 1<<32 + 11, math.MaxInt} {
+		if got := Looks(op); got != 0 {
+			t.Errorf("Looks(%d) = %d, want 0", op, got)
+		}
+	}
+}
+
+// Each Ref that a statement looks at may be one turn back, and each that it doesn't must be 0.
+func TestLooksAsMayAsks(t *testing.T) {
+	some := api.Ref{Back: 1}
+	for op := -20; op <= 40; op++ {
+		for refs := range 3 {
+			l := api.Loop{Logs: []int{0}, Body: []api.Stmt{{Op: op}}}
+			if refs > 0 {
+				l.Body[0].A = some
+			}
+			if refs > 1 {
+				l.Body[0].B = some
+			}
+			if May(l) && Looks(op) != refs {
+				t.Errorf("an Op %d may be with %d Refs, but Looks = %d", op, refs, Looks(op))
+			}
+		}
+	}
+}
