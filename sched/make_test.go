@@ -9,6 +9,7 @@ import (
 
 	"roundelay/api"
 	"roundelay/bound"
+	"roundelay/target"
 )
 
 // planOf makes a plan, and holds it against all that H2 says of it.
@@ -129,11 +130,16 @@ func TestOneByOneIsLegal(t *testing.T) {
 		g := rand.New(rand.NewSource(seed))
 		l, m := anyLoop(g, api.MaxBody), anyMachine(g, api.MaxUnits, api.MaxWait)
 		for _, least := range []int{1, waits(l, m), waits(l, m) + 1, 200} {
-			p := oneByOne(l, m, least)
+			p := OneByOne(l, m, least)
 			if p.Pace != max(least, waits(l, m)) {
 				t.Errorf("pace %d from %d on: %+v, %+v", p.Pace, least, l, m)
 			}
 			expectLegal(t, "one by one", l, m, p, true)
+			for at, s := range l.Body {
+				if p.Times[at]+target.Wait(m, s.Op) > p.Pace {
+					t.Errorf("the result of %d comes behind the pace: %+v: %+v, %+v", at, p, l, m)
+				}
+			}
 		}
 	}
 }
